@@ -643,12 +643,13 @@ func TestIs(t *testing.T) {
 	}
 }
 
-// P7.2: the one at the place that n is, and around.
+// P7.2: the one at the place that n is, and around, ahead of 0 as well as behind it.
 func TestPick(t *testing.T) {
 	l := unlike()[:3]
 	for _, c := range []struct{ n, place int }{
 		{0, 0}, {1, 1}, {2, 2}, {3, 0}, {4, 1}, {5, 2}, {6, 0}, {300, 0}, {301, 1}, {302, 2},
-		{-1, 0}, {-2, 0}, {-3, 0}, {-4, 0}, {-5, 0}, {leastInt, 0}, {leastInt + 1, 0}, {leastInt + 2, 0}, {mostInt, mostInt % 3}, {mostInt - 1, (mostInt - 1) % 3}, {mostInt - 2, (mostInt - 2) % 3},
+		{-1, 2}, {-2, 1}, {-3, 0}, {-4, 2}, {-5, 1}, {-6, 0}, {-7, 2}, {-300, 0}, {-301, 2}, {-302, 1},
+		{mostInt, mostInt % 3}, {mostInt - 1, (mostInt - 1) % 3}, {mostInt - 2, (mostInt - 2) % 3},
 	} {
 		if m, e := offer.Pick(c.n, l...); m != l[c.place] || e != api.OK {
 			t.Errorf("%d: %v, %d", c.n, m, e)
@@ -656,12 +657,9 @@ func TestPick(t *testing.T) {
 	}
 	for size := 1; size <= len(unlike()); size++ {
 		l := unlike()[:size]
+		around := slices.Repeat(l, 6)
 		for n := -3 * size; n < 3*size; n++ {
-			want := l[0]
-			if n > 0 {
-				want = slices.Repeat(l, 3)[n]
-			}
-			if m, e := offer.Pick(n, l...); m != want || e != api.OK {
+			if m, e := offer.Pick(n, l...); m != around[n+3*size] || e != api.OK {
 				t.Errorf("%d of %d: %v, %d", n, size, m, e)
 			}
 		}
@@ -671,6 +669,33 @@ func TestPick(t *testing.T) {
 			if m, e := offer.Pick(n, none...); m != (api.Meet{}) || e != api.ErrMeet {
 				t.Errorf("%d of none: %v, %d", n, m, e)
 			}
+		}
+	}
+}
+
+// P7.2: a number and the same one plus how many there are tell the same place, from the least number to the greatest one; one more tells the next place.
+func TestPickAround(t *testing.T) {
+	for size := 1; size <= len(unlike()); size++ {
+		l := unlike()[:size]
+		for _, n := range []int{leastInt, leastInt + 1, leastInt + 2, leastInt / 2, -last - 1, -last, -2 * size, -size - 1, -size, -size + 1, -2, -1, 0, 1, last, mostInt/2 - 1, mostInt - size - 1, mostInt - size} {
+			m, e := offer.Pick(n, l...)
+			far, e2 := offer.Pick(n+size, l...)
+			if m != far || e != api.OK || e2 != api.OK {
+				t.Errorf("%d of %d: %v, %d; %d further: %v, %d", n, size, m, e, size, far, e2)
+			}
+			next, _ := offer.Pick(n+1, l...)
+			if want := (slices.Index(l, m) + 1) % size; next != l[want] {
+				t.Errorf("%d of %d: %v, and the next one %v", n, size, m, next)
+			}
+		}
+	}
+	// The least number is -2^63: places worked out by hand.
+	for _, c := range []struct{ n, size, place int }{
+		{leastInt, 1, 0}, {leastInt, 2, 0}, {leastInt + 1, 2, 1}, {leastInt, 4, 0}, {leastInt + 3, 4, 3}, {leastInt, 8, 0}, {leastInt + 7, 8, 7}, {leastInt, 9, 1}, {leastInt + 1, 9, 2},
+	} {
+		l := unlike()[:c.size]
+		if m, e := offer.Pick(c.n, l...); m != l[c.place] || e != api.OK {
+			t.Errorf("%d of %d: %v, %d", c.n, c.size, m, e)
 		}
 	}
 }
