@@ -389,16 +389,16 @@ func TestDropAheadOfTheSocket(t *testing.T) {
 	}
 }
 
-// P10.1: if fewer than no drops were, the next one is the first; behind all of them there is none.
+// P10.1, P10.4: if fewer than no drops were, there is no next one, and none behind all of them; the world is as it was.
 func TestDropOfWrongNumbers(t *testing.T) {
 	w := but(begun(), func(w *api.World) { w.Socks, w.Plan.Drops = make([]api.Sock, 3), []int{1, 2} })
-	for _, dropped := range numbers() {
+	for _, dropped := range append(numbers(), -128) {
 		w.Dropped = dropped
 		what := fmt.Sprint("dropped ", dropped)
-		switch {
-		case dropped <= 0:
-			behind(t, what, but(w, func(w *api.World) { w.Dropped, w.Socks[1].Dead = dropped+1, true }))(world.Drop(w))
-		case dropped == 1:
+		switch dropped {
+		case 0:
+			behind(t, what, but(w, func(w *api.World) { w.Dropped, w.Socks[1].Dead = 1, true }))(world.Drop(w))
+		case 1:
 			behind(t, what, but(w, func(w *api.World) { w.Dropped, w.Socks[2].Dead = 2, true }))(world.Drop(w))
 		default:
 			barred(t, what, w, api.ErrMeet)(world.Drop(w))
@@ -406,6 +406,30 @@ func TestDropOfWrongNumbers(t *testing.T) {
 	}
 	none := api.World{Dropped: leastInt, Socks: make([]api.Sock, 3)}
 	barred(t, "below 0, without drops", none, api.ErrMeet)(world.Drop(none))
+}
+
+// P10.1: none is taken twice: from wherever on, as many are taken as were not yet.
+func TestDropTakesNoneTwice(t *testing.T) {
+	drops := []int{0, 1, 2}
+	for _, dropped := range append(numbers(), -3, -128) {
+		w := api.World{Plan: api.Plan{Drops: drops}, Socks: make([]api.Sock, 3), Dropped: dropped}
+		taken := 0
+		for range 2 * len(drops) {
+			next, e := world.Drop(w)
+			if e != api.OK {
+				break
+			}
+			w = next
+			taken++
+		}
+		left := 0
+		if 0 <= dropped && dropped < len(drops) {
+			left = len(drops) - dropped
+		}
+		if taken != left {
+			t.Errorf("dropped %d: %d were taken, not %d", dropped, taken, left)
+		}
+	}
 }
 
 // P10.1: the same in all fields, whether calls make it or not; lists of nothing and none are alike.
@@ -1120,7 +1144,7 @@ func TestWrongWorlds(t *testing.T) {
 			tick, e := world.Tick(w)
 			changed(t, what+" Tick", w, tick, api.Letter{}, e, map[bool]api.Errno{true: api.ErrMeet}[w.Clock >= w.Plan.Ticks], "Clock")
 			drop, e := world.Drop(w)
-			changed(t, what+" Drop", w, drop, api.Letter{}, e, map[bool]api.Errno{true: api.ErrMeet}[max(w.Dropped, 0) >= len(w.Plan.Drops)], "Dropped Socks")
+			changed(t, what+" Drop", w, drop, api.Letter{}, e, map[bool]api.Errno{true: api.ErrMeet}[w.Dropped < 0 || w.Dropped >= len(w.Plan.Drops)], "Dropped Socks")
 			shut, e := world.Shut(w, n)
 			changed(t, what+" Shut", w, shut, api.Letter{}, e, map[bool]api.Errno{true: api.ErrSocket}[n < 0 || n >= len(w.Socks)], "Socks Marks")
 			end, m, e := world.End(w, n)
